@@ -291,3 +291,22 @@ func TestBehindTheLength(t *testing.T) {
 		t.Errorf("bytes behind the length: %v", all)
 	}
 }
+
+// TestStores: how many bytes a store lays is told where Store lays them, and 0 where it does not.
+func TestStores(t *testing.T) {
+	m := mixed(8)
+	for op := range 60 {
+		for at := range uint32(12) {
+			want := uint32(0)
+			if _, ok := Store(m, op, at, 0); ok {
+				want = stores[op]
+			}
+			if many := Stores(m, op, at); many != want {
+				t.Errorf("store %d at %d: %d bytes, not %d", op, at, many, want)
+			}
+		}
+	}
+	if many := Stores(m, api.SW, math.MaxUint32-3); many != 0 {
+		t.Errorf("at the greatest place: %d bytes", many)
+	}
+}
