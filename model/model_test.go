@@ -262,7 +262,7 @@ func fetches(t *testing.T) story {
 	}}
 }
 
-// writesOver lays an ADDI over the word ahead of which it stands, and another one over a word that was done already, and that it goes back to.
+// writesOver lays an ADDI over a word that comes later, and an ECALL over one that was done already, and that it goes back to.
 func writesOver(t *testing.T) story {
 	h := before(4)
 	h.Regs[6] = told(t, api.Ins{Op: api.ADDI, Rd: 1, Imm: 77})
