@@ -541,3 +541,60 @@ func TestSameAnswer(t *testing.T) {
 		}
 	}
 }
+
+// TestDo: D2, D3: by its parts Step's commit comes out, too: with the words of what an instruction reads alone, and with what was loaded elsewhere.
+func TestDo(t *testing.T) {
+	for op := api.LUI; op <= api.EBREAK; op++ {
+		for _, called := range []uint32{0, 1, 2} {
+			rd := 5
+			if op >= api.BEQ && op <= api.BGEU || op >= api.SB && op <= api.SW || op >= api.ECALL {
+				rd = 0
+			}
+			i, h := placed(op, rd, 6, 7, 0, 8, 12)
+			h.Regs[17] = called
+			m := held(16, 8, told(t, i))
+			want, behind, _, _ := Step(h, m)
+			first, second := Reads(i)
+			if c := Do(i, h.PC, h.Regs[first], h.Regs[second], m); c != want {
+				t.Errorf("%+v: the commit is\n%+v, not\n%+v", i, c, want)
+			}
+			if x := Behind(h, want); x != behind {
+				t.Errorf("%+v: the hart is\n%+v, not\n%+v", i, x, behind)
+			}
+		}
+	}
+	load := api.Ins{Op: api.LH, Rd: 3, Rs1: 1}
+	if c := Loaded(load, 8, 77, true); c != (api.Commit{PC: 8, Next: 12, Rd: 3, Value: 77}) {
+		t.Errorf("loaded: %+v", c)
+	}
+	if c := Loaded(load, 8, 77, false); c != Trap(8, api.CauseLoad) {
+		t.Errorf("not loaded: %+v", c)
+	}
+}
+
+// TestReads: D2: ECALL goes by registers that its word does not name.
+func TestReads(t *testing.T) {
+	for op := api.LUI; op <= api.EBREAK; op++ {
+		want := [2]int{3, 4}
+		if op == api.ECALL {
+			want = [2]int{17, 10}
+		}
+		if first, second := Reads(api.Ins{Op: op, Rd: 2, Rs1: 3, Rs2: 4}); [2]int{first, second} != want {
+			t.Errorf("%d: %d and %d", op, first, second)
+		}
+	}
+}
+
+// TestParts: P1: the parts of Step end, and none panics, also of what Step never hands them.
+func TestParts(t *testing.T) {
+	for _, op := range []int{math.MinInt, -1, 0, api.EBREAK + 1, 255, math.MaxInt} {
+		if c := Do(api.Ins{Op: op, Rd: 1, Rs1: 2, Rs2: 3}, 8, 1, 2, nil); c != Trap(8, api.CauseWord) {
+			t.Errorf("op %d: %+v", op, c)
+		}
+	}
+	for _, rd := range []int{math.MinInt, -1, 0, 32, math.MaxInt} {
+		if x := Behind(before(8), api.Commit{PC: 8, Next: 12, Rd: rd, Value: 5}); x != before(12) {
+			t.Errorf("register %d: %+v", rd, x)
+		}
+	}
+}

@@ -310,3 +310,17 @@ func TestStores(t *testing.T) {
 		t.Errorf("at the greatest place: %d bytes", many)
 	}
 }
+
+// TestLoads: C1: how many bytes each load asks for; 0 of other ops.
+func TestLoads(t *testing.T) {
+	for op := -2; op <= api.EBREAK+2; op++ {
+		if many := Loads(op); many != loads[op] {
+			t.Errorf("load %d: %d bytes", op, many)
+		}
+	}
+	for _, op := range []int{math.MinInt, math.MaxInt} {
+		if many := Loads(op); many != 0 {
+			t.Errorf("load %d: %d bytes", op, many)
+		}
+	}
+}
